@@ -1,0 +1,91 @@
+"""Every example of sections 1 and 2 of DOC.md, as it stands there, and those of README.md."""
+
+import doctest
+import unittest
+from pathlib import Path
+
+README = Path(__file__).resolve().parent.parent / "README.md"
+
+SECTION_1 = """
+    >>> from treelamps.forests import is_forest
+    >>> [is_forest((3, ((0, 1), (1, 2)))), is_forest((3, ((0, 1), (0, 2), (1, 2))))]
+    [True, False]
+
+    >>> from treelamps.forests import forest_error
+    >>> forest_error((3, ((0, 1), (0, 2), (1, 2))))
+    (2, 'cycle')
+
+    >>> from treelamps.forests import is_setting
+    >>> forest = (4, ((0, 1), (1, 2), (2, 3)))
+    >>> [is_setting(forest, (0, 2)), is_setting(forest, (0, 1))]
+    [True, False]
+
+    >>> from treelamps.forests import neighbours_of
+    >>> forest = (4, ((0, 1), (1, 2), (2, 3)))
+    >>> neighbours_of(forest, 1)
+    (0, 2)
+
+    >>> from treelamps.forests import path_between
+    >>> forest = (4, ((0, 1), (1, 2)))
+    >>> [path_between(forest, 2, 0), path_between(forest, 0, 3)]
+    [(2, 1, 0), None]
+
+    >>> from treelamps.forests import parts_of
+    >>> forest = (4, ((0, 1), (1, 2), (2, 3)))
+    >>> parts_of(forest, (0, 2, 3))
+    ((0,), (2, 3))
+"""
+
+SECTION_2 = """
+    >>> from treelamps.slides import slide_lamp
+    >>> forest = (4, ((0, 1), (1, 2), (2, 3)))
+    >>> slide_lamp(forest, (0, 2), 0, 1)
+    raises Blocked(2)
+
+    >>> from treelamps.slides import possible_slides
+    >>> forest = (4, ((0, 1), (1, 2), (2, 3)))
+    >>> possible_slides(forest, (0, 2))
+    ((2, 3),)
+
+    >>> from treelamps.slides import follow
+    >>> forest = (4, ((0, 1), (1, 2), (2, 3)))
+    >>> follow(forest, (0, 2), ((2, 3), (0, 1)))
+    (1, 3)
+
+    >>> from treelamps.slides import backward
+    >>> backward(((2, 3), (0, 1)))
+    ((1, 0), (3, 2))
+"""
+
+
+def answer_of(rows):
+    """The repr of the last row, or the error that it raises, in the form that DOC.md uses."""
+    names = {}
+    for row in rows[:-1]:
+        exec(row, names)
+    try:
+        return repr(eval(rows[-1], names))
+    except (ValueError, LookupError) as error:
+        fields = ", ".join(repr(field) for field in vars(error).values())
+        return f"raises {error.__class__.__name__}" + (f"({fields})" if fields else "")
+
+
+class ExamplesTest(unittest.TestCase):
+    def check(self, section, many):
+        examples = section.strip().split("\n\n")
+        self.assertEqual(len(examples), many)
+        for example in examples:
+            *rows, expected = [line.strip() for line in example.splitlines()]
+            with self.subTest(example=rows[-1]):
+                self.assertEqual(answer_of([row.removeprefix(">>> ") for row in rows]), expected)
+
+    def test_section_1(self):
+        self.check(SECTION_1, 6)
+
+    def test_section_2(self):
+        self.check(SECTION_2, 4)
+
+    def test_readme(self):
+        failed, tried = doctest.testfile(str(README), module_relative=False)
+        self.assertEqual(failed, 0)
+        self.assertGreater(tried, 0)

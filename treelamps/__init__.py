@@ -1,0 +1,1 @@
+"""Treelamps: moving lamps on a forest."""

@@ -8,6 +8,24 @@ BARE_12 = (12, ())
 TREES_12 = (12, ((0, 5), (1, 2), (1, 9), (3, 11), (4, 5), (5, 7), (6, 10), (7, 8)))
 SPIDER_12 = (12, ((0, 11), (1, 11), (2, 6), (3, 7), (4, 8), (5, 9), (6, 11), (7, 11), (8, 11), (9, 10), (10, 11)))
 LARGE_FORESTS = (PATH_12, STAR_12, BARE_12, TREES_12, SPIDER_12)
+CATERPILLAR_12 = (12, ((0, 1), (0, 6), (1, 2), (1, 7), (2, 3), (2, 8), (3, 4), (3, 9), (4, 5), (4, 10), (5, 11)))
+COMB_9 = (9, ((0, 1), (1, 2), (1, 5), (2, 3), (2, 6), (2, 7), (3, 4), (3, 8)))
+TREES_10 = (10, ((0, 1), (0, 2), (0, 3), (3, 4), (5, 6), (6, 7), (7, 8)))
+HUBS_11 = (11, ((0, 1), (0, 2), (0, 3), (3, 4), (4, 5), (4, 6), (4, 7), (7, 8), (8, 9), (8, 10)))
+
+
+def renamed(forest, names):
+    """The forest in which v is called names[v]."""
+    return (forest[0], tuple(sorted(tuple(sorted((names[a], names[b]))) for a, b in forest[1])))
+
+
+COMB_9_RENAMED = renamed(COMB_9, (4, 8, 0, 6, 2, 7, 1, 5, 3))
+HUBS_11_RENAMED = renamed(HUBS_11, (10, 3, 7, 0, 5, 1, 8, 9, 2, 6, 4))
+CATERPILLAR_12_RENAMED = renamed(CATERPILLAR_12, (7, 2, 11, 0, 9, 4, 1, 10, 3, 8, 5, 6))
+PATHS = tuple((n, tuple((v, v + 1) for v in range(n - 1))) for n in range(6, 12))
+STARS = tuple((n, tuple((v, n - 1) for v in range(n - 1))) for n in (6, 8, 10))
+MIDDLE_FORESTS = PATHS + STARS + (COMB_9, COMB_9_RENAMED, TREES_10, HUBS_11, HUBS_11_RENAMED)
+LARGER_FORESTS = MIDDLE_FORESTS + LARGE_FORESTS + (CATERPILLAR_12, CATERPILLAR_12_RENAMED)
 
 
 def touches(forest, a, b):
@@ -65,6 +83,94 @@ def slide_is_possible(forest, setting, u, v):
     return touches(forest, u, v) and u in setting and v not in setting and beside == [u]
 
 
+def after_slide(setting, u, v):
+    return tuple(sorted({*setting, v} - {u}))
+
+
+def steps_from(forest, setting):
+    """The pairs of a possible slide and the setting after it, by the words of [5]."""
+    pairs = [(u, v) for edge in forest[1] for u, v in (edge, edge[::-1])]
+    return [(pair, after_slide(setting, *pair)) for pair in pairs if slide_is_possible(forest, setting, *pair)]
+
+
+def class_by_search(forest, setting):
+    """All settings that some slides lead to."""
+    found = [setting]
+    seen = {setting}
+    for one in found:
+        for _, other in steps_from(forest, one):
+            if other not in seen:
+                seen.add(other)
+                found.append(other)
+    return found
+
+
+def classes_by_search(forest):
+    classes = []
+    seen = set()
+    for setting in all_settings(forest):
+        if setting not in seen:
+            classes.append(class_by_search(forest, setting))
+            seen.update(classes[-1])
+    return classes
+
+
+def all_numbers(value):
+    """Whether value is a tuple of ints that are no bools."""
+    return type(value) is tuple and all(type(item) is int for item in value)
+
+
+def follow_by_words(forest, setting, slides):
+    """The setting after the slides, or None if they are not a tuple of slides that are possible one after another."""
+    if type(slides) is not tuple:
+        return None
+    for item in slides:
+        if not all_numbers(item) or len(item) != 2 or not slide_is_possible(forest, setting, *item):
+            return None
+        setting = after_slide(setting, *item)
+    return setting
+
+
+def beside(forest, chosen, vertex):
+    return [other for other in chosen if touches(forest, vertex, other)]
+
+
+def is_lock_by_words(forest, setting, value):
+    """The words of [6], vertex by vertex."""
+    if not all_numbers(value) or list(value) != sorted(set(value)) or not set(value) <= set(setting):
+        return False
+    return all(len(beside(forest, value, vertex)) != 1 for vertex in range(forest[0]))
+
+
+def subsets_of(items):
+    return [chosen for many in range(len(items) + 1) for chosen in combinations(items, many)]
+
+
+def locks_of(forest, setting):
+    """All locks of a setting."""
+    return [chosen for chosen in subsets_of(setting) if is_lock_by_words(forest, setting, chosen)]
+
+
+def greatest_by_words(forest, setting):
+    """The greatest lock, by removing lamps one after another from the last one on."""
+    left = list(setting)
+    for lamp in [lamp for _ in setting for lamp in reversed(setting)]:
+        dark = beside(forest, range(forest[0]), lamp)
+        if lamp in left and any(beside(forest, left, vertex) == [lamp] for vertex in dark):
+            left.remove(lamp)
+    return tuple(left)
+
+
+def pieces_by_words(forest, lock):
+    free = [v for v in range(forest[0]) if v not in lock and not beside(forest, lock, v)]
+    edges = [edge for edge in forest[1] if set(edge) <= set(free)]
+    return tuple(sorted({tuple(sorted(walk(edges, vertex))) for vertex in free}))
+
+
+def count_in(setting, piece):
+    return len(set(setting) & set(piece))
+
+
 def deep_list(levels):
     value = []
     for level in range(levels):
@@ -86,3 +192,17 @@ def odd_values():
 def odd_numbers(n):
     """Numbers that are no vertices of a forest with n vertices."""
     return [-1, -2, n, n + 1, 10 ** 29, -(10 ** 29)]
+
+
+def with_one_part_replaced(value, others):
+    """Copies of a nested tuple in which one part, at any depth, is another value or a list, or left out, or doubled."""
+    yield from others
+    if type(value) is int and value in (0, 1):
+        yield bool(value)
+    if type(value) is tuple:
+        yield list(value)
+        for at, part in enumerate(value):
+            yield value[:at] + value[at + 1:]
+            yield value[:at] + (part,) + value[at:]
+            for other in with_one_part_replaced(part, others):
+                yield value[:at] + (other,) + value[at + 1:]

@@ -6,9 +6,16 @@ from copy import deepcopy
 from tests.samples import LARGE_FORESTS, TREES_12, odd_values
 from treelamps.errors import LampError
 from treelamps.forests import forest_error, is_forest, is_setting, neighbours_of, parts_of, path_between
+from treelamps.growth import add_edge, attach_vertex, remove_edge, rename_vertices, side_by_side
+from treelamps.locks import greatest_lock, is_lock, lamp_certificate, lamp_holds
+from treelamps.pieces import piece_counts, pieces_of
+from treelamps.reach import certificate_holds, find_certificate, find_plan, is_reachable, normal_setting
 from treelamps.slides import backward, follow, possible_slides, slide_lamp
 
+PATH_3 = (3, ((0, 1), (1, 2)))
 PATH_4 = (4, ((0, 1), (1, 2), (2, 3)))
+NAMES_12 = (7, 2, 11, 0, 9, 4, 1, 10, 3, 8, 5, 6)
+YES_OR_NO = (is_forest, is_setting, is_lock, lamp_holds, is_reachable, certificate_holds)
 
 
 def outcome(function, arguments):
@@ -31,6 +38,19 @@ def any_value_calls():
             (slide_lamp, (PATH_4, (0, 2), value, 3)), (slide_lamp, (PATH_4, (0, 2), 2, value)),
             (follow, (PATH_4, (0, 2), value)), (follow, (PATH_4, (0, 2), ((2, 3), value))),
             (follow, (PATH_4, (0, 2), ((2, 3), (value, 1)))), (follow, (PATH_4, (0, 2), ((2, 3), (0, value)))),
+            (is_lock, (PATH_3, (0, 2), value)), (is_lock, (PATH_3, (0, 2), (0, value))),
+            (lamp_certificate, (PATH_4, (0, 2), value)), (lamp_holds, (PATH_3, (0, 2), 0, value)),
+            (lamp_holds, (PATH_3, (0, 2), 0, ("rigid", value))), (lamp_holds, (PATH_4, (0, 2), 0, ("moves", value))),
+            (lamp_holds, (PATH_4, (0, 2), 0, ("moves", (value,)))), (lamp_holds, (PATH_3, (0, 2), 0, (value, (0, 2)))),
+            (certificate_holds, (PATH_4, (0, 2), (1, 3), value)),
+            (certificate_holds, (PATH_4, (0, 2), (1, 3), ("plan", value))),
+            (certificate_holds, (PATH_4, (0, 2), (1, 3), ("plan", ((2, 3), value)))),
+            (certificate_holds, (PATH_3, (0, 2), (0,), ("lock", value, (0, 2)))),
+            (certificate_holds, (PATH_3, (0, 2), (0,), ("lock", 0, value))),
+            (certificate_holds, (PATH_4, (0,), (0, 2), ("count", value, (0, 1, 2, 3)))),
+            (certificate_holds, (PATH_4, (0,), (0, 2), ("count", (), value))),
+            (attach_vertex, (PATH_4, value)), (add_edge, (PATH_4, value, 0)), (add_edge, (PATH_4, 0, value)),
+            (remove_edge, (PATH_4, value, 0)), (remove_edge, (PATH_4, 0, value)),
         ])
     return calls
 
@@ -42,7 +62,18 @@ def ordinary_calls():
             (forest_error, (forest,)), (is_forest, (forest,)), (is_setting, (forest, (0, 2))),
             (neighbours_of, (forest, 5)), (path_between, (forest, 0, 11)), (parts_of, (forest, (0, 4, 5, 11))),
             (possible_slides, (forest, (2, 4))), (slide_lamp, (forest, (4,), 4, 5)),
+            (is_lock, (forest, (1, 3), (1, 3))), (greatest_lock, (forest, (1, 3, 6))),
+            (lamp_certificate, (forest, (1, 3, 6), 3)), (lamp_holds, (forest, (1, 3), 3, ("rigid", (1, 3)))),
+            (pieces_of, (forest, ())), (piece_counts, (forest, (1, 3, 6), ())),
+            (normal_setting, (forest, (1, 3, 6))), (attach_vertex, (forest, 0)), (add_edge, (forest, 3, 6)),
+            (remove_edge, (forest, 0, 1)), (rename_vertices, (forest, NAMES_12)), (side_by_side, (forest, (0, ()))),
         ])
+        for first, second in (((1, 3), (1, 3)), ((1, 3), (2, 4)), ((1, 3), (1,)), ((3,), (4,)), ((4,), (5,))):
+            calls.extend([
+                (is_reachable, (forest, first, second)), (find_plan, (forest, first, second)),
+                (find_certificate, (forest, first, second)),
+                (certificate_holds, (forest, first, second, ("lock", 0, first))),
+            ])
     return calls
 
 
@@ -67,7 +98,7 @@ class ConventionsTest(unittest.TestCase):
 
     def test_results_are_bools_tuples_and_none(self):
         for function, arguments in ordinary_calls():
-            kinds = (bool,) if function in (is_forest, is_setting) else (tuple, type(None))
+            kinds = (bool,) if function in YES_OR_NO else (tuple, type(None))
             result = outcome(function, arguments)
             self.assertIn(type(result), kinds, function)
 
@@ -83,3 +114,7 @@ class ConventionsTest(unittest.TestCase):
         self.assertEqual(forest_error((2, ((0, True),))), (0, "edge"))
         self.assertIs(is_setting((2, ()), (False, 1)), False)
         self.assertIs(is_setting((2, ()), (0, True)), False)
+        self.assertIs(is_lock((2, ()), (0, 1), (0, True)), False)
+        self.assertIs(lamp_holds((2, ()), (0, 1), 1, ("rigid", (0, True))), False)
+        self.assertIs(certificate_holds(PATH_3, (0, 2), (), ("lock", False, (0, 2))), False)
+        self.assertIs(certificate_holds(PATH_3, (), (0, 2), ("lock", True, (0, 2))), False)

@@ -1,4 +1,4 @@
-"""Every example of sections 1 and 2 of DOC.md, as it stands there, and those of README.md."""
+"""Every example of sections 1 to 5 and 7 of DOC.md, as it stands there, and those of README.md."""
 
 import doctest
 import unittest
@@ -57,6 +57,88 @@ SECTION_2 = """
     ((1, 0), (3, 2))
 """
 
+SECTION_3 = """
+    >>> from treelamps.locks import is_lock
+    >>> forest = (3, ((0, 1), (1, 2)))
+    >>> [is_lock(forest, (0, 2), (0, 2)), is_lock(forest, (0, 2), (0,))]
+    [True, False]
+
+    >>> from treelamps.locks import greatest_lock
+    >>> forest = (4, ((0, 1), (1, 2), (2, 3)))
+    >>> [greatest_lock(forest, (0, 2)), greatest_lock((3, ((0, 1), (1, 2))), (0, 2))]
+    [(), (0, 2)]
+
+    >>> from treelamps.locks import lamp_certificate
+    >>> forest = (4, ((0, 1), (1, 2), (2, 3)))
+    >>> lamp_certificate(forest, (0, 2), 0)
+    ('moves', ((2, 3), (0, 1)))
+
+    >>> from treelamps.locks import lamp_holds
+    >>> forest = (4, ((0, 1), (1, 2), (2, 3)))
+    >>> [lamp_holds(forest, (0, 2), 0, ('moves', ((2, 3), (0, 1)))), lamp_holds(forest, (0, 2), 0, ('rigid', (0, 2)))]
+    [True, False]
+"""
+
+SECTION_4 = """
+    >>> from treelamps.pieces import pieces_of
+    >>> pieces_of((7, ((0, 1), (1, 2), (1, 3), (3, 4), (1, 5), (5, 6))), (0, 2))
+    ((3, 4), (5, 6))
+
+    >>> from treelamps.pieces import piece_counts
+    >>> forest = (7, ((0, 1), (1, 2), (1, 3), (3, 4), (1, 5), (5, 6)))
+    >>> piece_counts(forest, (0, 2, 3), (0, 2))
+    (1, 0)
+"""
+
+SECTION_5 = """
+    >>> from treelamps.reach import is_reachable
+    >>> forest = (4, ((0, 1), (1, 2), (2, 3)))
+    >>> [is_reachable(forest, (0, 2), (1, 3)), is_reachable(forest, (0,), (0, 2))]
+    [True, False]
+
+    >>> from treelamps.reach import find_plan
+    >>> from treelamps.slides import follow
+    >>> forest = (4, ((0, 1), (1, 2), (2, 3)))
+    >>> follow(forest, (0, 2), find_plan(forest, (0, 2), (1, 3)))
+    (1, 3)
+
+    >>> from treelamps.reach import find_certificate
+    >>> find_certificate((3, ((0, 1), (1, 2))), (0, 2), (0, 2))
+    ('plan', ())
+
+    >>> from treelamps.reach import certificate_holds
+    >>> forest = (7, ((0, 1), (1, 2), (1, 3), (3, 4), (1, 5), (5, 6)))
+    >>> certificate_holds(forest, (0, 2, 3), (0, 2, 5), ('count', (0, 2), (3, 4)))
+    True
+
+    >>> from treelamps.reach import normal_setting
+    >>> forest = (4, ((0, 1), (1, 2), (2, 3)))
+    >>> normal_setting(forest, (1, 3))
+    (0, 2)
+"""
+
+SECTION_7 = """
+    >>> from treelamps.growth import attach_vertex
+    >>> attach_vertex((2, ((0, 1),)), 1)
+    (3, ((0, 1), (1, 2)))
+
+    >>> from treelamps.growth import add_edge
+    >>> add_edge((3, ((0, 1), (1, 2))), 0, 2)
+    raises Cycle((0, 1, 2))
+
+    >>> from treelamps.growth import remove_edge
+    >>> remove_edge((3, ((0, 1), (1, 2))), 2, 1)
+    (3, ((0, 1),))
+
+    >>> from treelamps.growth import rename_vertices
+    >>> rename_vertices((3, ((0, 1),)), (2, 0, 1))
+    (3, ((0, 2),))
+
+    >>> from treelamps.growth import side_by_side
+    >>> side_by_side((2, ((0, 1),)), (2, ((0, 1),)))
+    (4, ((0, 1), (2, 3)))
+"""
+
 
 def answer_of(rows):
     """The repr of the last row, or the error that it raises, in the form that DOC.md uses."""
@@ -84,6 +166,18 @@ class ExamplesTest(unittest.TestCase):
 
     def test_section_2(self):
         self.check(SECTION_2, 4)
+
+    def test_section_3(self):
+        self.check(SECTION_3, 4)
+
+    def test_section_4(self):
+        self.check(SECTION_4, 2)
+
+    def test_section_5(self):
+        self.check(SECTION_5, 5)
+
+    def test_section_7(self):
+        self.check(SECTION_7, 5)
 
     def test_readme(self):
         failed, tried = doctest.testfile(str(README), module_relative=False)

@@ -24,10 +24,12 @@ BARRED_NAMES = set("register mro elements open input version_info with_traceback
 BARRED_ATTRIBUTES = set(
     "items keys values pop update append clear extend insert remove reverse setdefault sort args encode decode hex "
     "fromhex format as_integer_ratio bit_count conjugate from_bytes is_integer to_bytes".split())
+MODIFYING = set("append clear extend insert pop remove reverse setdefault update sort add discard".split())
 ITERATED = {"zip", "enumerate", "reversed", "range"}
 VIEWS = {"items", "keys", "values"}
 TAKERS = {"list", "tuple", "dict", "sorted", "sum", "any", "all", "enumerate", "zip", "min", "max"}
 ISINSTANCE = {"int", "str", "bool", "bytes", "list", "tuple", "dict"}
+BARRED_CATCHES = (None, "Exception", "TypeError", "BaseException", "ValueError", "LookupError", "IndexError")
 BARRED_NODES = {
     ast.Global: "L6", ast.AsyncFunctionDef: "L6", ast.AsyncFor: "L6", ast.AsyncWith: "L6", ast.Await: "L6",
     ast.Import: "L2", ast.Div: "L7", ast.MatMult: "L7", ast.Set: "L24", ast.SetComp: "L24", ast.AnnAssign: "L21",
@@ -38,8 +40,19 @@ def name_of(node):
     return node.id if isinstance(node, ast.Name) else None
 
 
+def is_table(node):
+    """A list or dict at module level, which contains no list or dict (L15)."""
+    if isinstance(node, ast.Dict):
+        items = node.keys + node.values
+    elif isinstance(node, ast.List):
+        items = node.elts
+    else:
+        return False
+    return all(is_plain(item) for item in items)
+
+
 def is_plain(node):
-    if isinstance(node, (ast.Tuple, ast.List)):
+    if isinstance(node, ast.Tuple):
         return all(is_plain(item) for item in node.elts)
     if isinstance(node, ast.UnaryOp):
         return isinstance(node.op, ast.USub) and is_plain(node.operand)
@@ -93,7 +106,8 @@ def top_breaks(tree, package):
         elif isinstance(node, (ast.FunctionDef, ast.ClassDef)):
             bound.append(node.name)
         elif isinstance(node, ast.Assign):
-            if len(node.targets) != 1 or not name_of(node.targets[0]) or not is_plain(node.value):
+            right = is_plain(node.value) or is_table(node.value)
+            if len(node.targets) != 1 or not name_of(node.targets[0]) or not right:
                 found.append(("L3", node.lineno))
             bound.extend(ast.unparse(target) for target in node.targets)
         elif not (is_docstring(node) and place == 0):
@@ -115,8 +129,58 @@ def function_breaks(node):
         found.append(("L10", node.lineno))
     if node.returns or any(argument.annotation for argument in every):
         found.append(("L21", node.lineno))
+    if arguments.kwonlyargs and (node.name in METHODS or node.name in DUNDERS - {"__init__"}):
+        found.append(("L4", node.lineno))
     if node.name == "__init__" and any(isinstance(inner, ast.Return) for inner in ast.walk(node)):
         found.append(("L28", node.lineno))
+    if node.name in ("__eq__", "__repr__", "__str__", "__len__"):
+        found.extend(("L28", node.lineno) for inner in ast.walk(node) if not is_quiet(inner, node.name))
+        found.extend(("L28", node.lineno) for inner in node.body[-1:] if not isinstance(inner, ast.Return))
+    return found
+
+
+def is_quiet(node, name):
+    """L28: whether __eq__, __repr__, __str__ or __len__ may contain this node."""
+    if isinstance(node, (ast.Assign, ast.AugAssign, ast.Delete, ast.NamedExpr, ast.For, ast.While, ast.Raise)):
+        return False
+    if isinstance(node, ast.Return) and name != "__eq__":
+        called = node.value.func if isinstance(node.value, ast.Call) else None
+        if name == "__len__":
+            return name_of(called) == "len" or isinstance(node.value, ast.Constant)
+        if isinstance(called, ast.Attribute):
+            return called.attr == "join" and isinstance(called.value, ast.Constant)
+        return isinstance(node.value, (ast.JoinedStr, ast.Constant)) or name_of(called) in ("str", "repr")
+    return True
+
+
+def is_simple(node):
+    """L6 Finally: what may be assigned there."""
+    if isinstance(node, (ast.Tuple, ast.List)):
+        return all(is_simple(item) for item in node.elts)
+    if isinstance(node, ast.Attribute):
+        return is_simple(node.value)
+    return isinstance(node, (ast.Name, ast.Constant))
+
+
+def finally_breaks(node):
+    """L6 Finally: only assignments, although some other statements are allowed there."""
+    return [("L6", inner.lineno) for inner in node.finalbody
+            if not isinstance(inner, ast.Assign) or len(inner.targets) != 1
+            or not is_simple(inner.targets[0]) or not is_simple(inner.value)]
+
+
+def loop_breaks(node):
+    """L23: what a loop iterates over is not modified in it."""
+    over = {ast.unparse(inner) for inner in ast.walk(node.iter) if isinstance(inner, (ast.Name, ast.Attribute))}
+    found = []
+    for inner in [inner for row in node.body for inner in ast.walk(row)]:
+        changed = None
+        if isinstance(inner, ast.Call) and isinstance(inner.func, ast.Attribute) and inner.func.attr in MODIFYING:
+            changed = inner.func.value
+        elif isinstance(inner, ast.Subscript) and not isinstance(inner.ctx, ast.Load):
+            changed = inner.value
+        if changed is not None and ast.unparse(changed) in over:
+            found.append(("L23", inner.lineno))
     return found
 
 
@@ -147,7 +211,8 @@ def bound_names(tree):
 def name_breaks(tree):
     """L8, L12, L15, L17, L26: names."""
     found = []
-    taken = {alias.asname or alias.name for node in tree.body if isinstance(node, ast.ImportFrom) for alias in node.names}
+    imports = [node for node in tree.body if isinstance(node, ast.ImportFrom)]
+    taken = {alias.asname or alias.name for node in imports for alias in node.names}
     taken |= {node.name for node in tree.body if isinstance(node, ast.ClassDef)} | set(dir(builtins))
     for name, line in bound_names(tree):
         if name.startswith("_") or not name.isascii():
@@ -186,6 +251,8 @@ def call_breaks(node, parent, methods):
         found.append(("L24", node.lineno))
     if attribute and attribute not in METHODS | methods | {"__init__"}:
         found.append(("L25", node.lineno))
+    if attribute in METHODS and node.keywords:
+        found.append(("L22", node.lineno))
     return found
 
 
@@ -201,7 +268,7 @@ def statement_breaks(node):
             found.append("L19")
     if isinstance(node, ast.ExceptHandler):
         kinds = node.type.elts if isinstance(node.type, ast.Tuple) else [node.type]
-        if any(name_of(kind) in (None, "Exception", "TypeError", "BaseException") for kind in kinds):
+        if any(name_of(kind) in BARRED_CATCHES for kind in kinds):
             found.append("L19")
     if isinstance(node, ast.Compare):
         for sign, right in zip(node.ops, node.comparators):
@@ -223,6 +290,10 @@ def breaks_of(source, package="treelamps", methods=frozenset()):
             found.extend(function_breaks(parent))
         if isinstance(parent, ast.ClassDef):
             found.extend(class_breaks(parent))
+        if isinstance(parent, ast.Try):
+            found.extend(finally_breaks(parent))
+        if isinstance(parent, ast.For):
+            found.extend(loop_breaks(parent))
         for node in ast.iter_child_nodes(parent):
             if isinstance(node, ast.Call):
                 found.extend(call_breaks(node, parent, methods))

@@ -1,4 +1,4 @@
-"""Every example of sections 1 to 5 and 7 of DOC.md, as it stands there, and those of README.md."""
+"""Every example of DOC.md, as it stands there, and those of README.md."""
 
 import doctest
 import unittest
@@ -117,6 +117,31 @@ SECTION_5 = """
     (0, 2)
 """
 
+SECTION_6 = """
+    >>> from treelamps.classes import class_of
+    >>> forest = (4, ((0, 1), (1, 2), (2, 3)))
+    >>> class_of(forest, (0, 2))
+    ((0, 2), (0, 3), (1, 3))
+
+    >>> from treelamps.classes import settings_of
+    >>> settings_of((3, ((0, 1), (1, 2))), 2)
+    ((0, 2),)
+
+    >>> from treelamps.classes import classes_of
+    >>> classes_of((3, ((0, 1), (1, 2))), 1)
+    (((0,), (1,), (2,)),)
+
+    >>> from treelamps.classes import steps_between
+    >>> forest = (4, ((0, 1), (1, 2), (2, 3)))
+    >>> steps_between(forest, (0, 2), (1, 3))
+    2
+
+    >>> from treelamps.classes import shortest_plan
+    >>> forest = (4, ((0, 1), (1, 2), (2, 3)))
+    >>> shortest_plan(forest, (0, 2), (1, 3))
+    ((2, 3), (0, 1))
+"""
+
 SECTION_7 = """
     >>> from treelamps.growth import attach_vertex
     >>> attach_vertex((2, ((0, 1),)), 1)
@@ -137,6 +162,86 @@ SECTION_7 = """
     >>> from treelamps.growth import side_by_side
     >>> side_by_side((2, ((0, 1),)), (2, ((0, 1),)))
     (4, ((0, 1), (2, 3)))
+"""
+
+SECTION_8 = """
+    >>> from treelamps.boards import Board
+    >>> str(Board((3, ((0, 1), (1, 2))), (0,)))
+    '3 vertices, 2 edges, 1 lamps, 0 edits'
+
+    >>> from treelamps.boards import Board
+    >>> board = Board((2, ((0, 1),)), (0,))
+    >>> board.light(1)
+    raises Blocked(0)
+
+    >>> from treelamps.boards import Board
+    >>> board = Board((2, ((0, 1),)), (0,))
+    >>> [board.slide(0, 1), board.lamps()]
+    [1, (1,)]
+
+    >>> from treelamps.boards import Board
+    >>> board = Board((3, ((0, 1),)), (0, 2))
+    >>> board.join(0, 2)
+    raises LampsMeet
+
+    >>> from treelamps.boards import Board
+    >>> board = Board((2, ((0, 1),)), (0,))
+    >>> [board.dim(0), board.undo(), board.lamps()]
+    [1, 0, (0,)]
+
+    >>> from treelamps.boards import Board
+    >>> board = Board((3, ((0, 1), (1, 2))), (0,))
+    >>> board.attempt([('slide', 0, 1), ('slide', 1, 2), ('slide', 2, 1)], goal=lambda one: one.lamps() == (2,))
+    2
+
+    >>> from treelamps.boards import Board
+    >>> board = Board((1, ()), (0,))
+    >>> [board.grow(0), board.forest(), board.forest(version=0)]
+    [1, (2, ((0, 1),)), (1, ())]
+
+    >>> from treelamps.boards import Board
+    >>> board = Board((3, ((0, 1), (1, 2))), (0, 2))
+    >>> [board.rigid(), board.normal()]
+    [(0, 2), (0, 2)]
+
+    >>> from treelamps.boards import Board
+    >>> Board((2, ((0, 1),)), (0,)).reaches((0, 1))
+    raises BadSetting
+
+    >>> from treelamps.boards import Board
+    >>> board = Board((2, ((0, 1),)), (0,))
+    >>> [board.slide(0, 1), board.edits()]
+    [1, (('slide', 0, 1),)]
+
+    >>> from treelamps.boards import Board
+    >>> [len(Board((0, ()), ())), Board((1, ()), (0,)) == Board((1, ()), ())]
+    [0, False]
+"""
+
+SECTION_9 = """
+    >>> from treelamps.texts import forest_text, slides_text
+    >>> [forest_text((3, ((0, 1), (1, 2)))), slides_text(((2, 3), (0, 1)))]
+    ['3: 0-1 1-2', '2>3 0>1']
+
+    >>> from treelamps.texts import parse_forest
+    >>> parse_forest('3: 0-1 1-1')
+    raises BadText(2)
+
+    >>> from treelamps.texts import parse_slides
+    >>> parse_slides('2>3 0>1')
+    ((2, 3), (0, 1))
+
+    >>> from treelamps.boards import Board
+    >>> from treelamps.shells import Shell
+    >>> shell = Shell(Board((2, ((0, 1),)), (0,)))
+    >>> shell.execute('lamps')
+    '0'
+
+    >>> from treelamps.boards import Board
+    >>> from treelamps.shells import Shell
+    >>> shell = Shell(Board((3, ((0, 1), (1, 2))), (0,)))
+    >>> [shell.execute('plan 0 2'), shell.execute('slide 0 1'), shell.execute('slide 0 1'), shell.execute('plan 1')]
+    ['lock 1 0 2', 'ok 1', 'error NoLamp', 'plan none']
 """
 
 
@@ -176,8 +281,17 @@ class ExamplesTest(unittest.TestCase):
     def test_section_5(self):
         self.check(SECTION_5, 5)
 
+    def test_section_6(self):
+        self.check(SECTION_6, 5)
+
     def test_section_7(self):
         self.check(SECTION_7, 5)
+
+    def test_section_8(self):
+        self.check(SECTION_8, 11)
+
+    def test_section_9(self):
+        self.check(SECTION_9, 5)
 
     def test_readme(self):
         failed, tried = doctest.testfile(str(README), module_relative=False)

@@ -1,11 +1,14 @@
-"""The guarantees (a) to (f) of [2], against a search through all slides."""
+"""The guarantees of [2]: (a) to (f) against a search through all slides, (g) after drawn edits and undos."""
 
 import unittest
+from random import Random
 
+from tests.models import SOME_FORESTS, drawn_board, make, right_edits
 from tests.samples import (
     CATERPILLAR_12, HUBS_11_RENAMED, LARGER_FORESTS, PATH_12, TREES_12, all_settings, classes_by_search,
     slide_is_possible, small_forests, steps_from,
 )
+from treelamps.boards import Board
 from treelamps.locks import greatest_lock, lamp_certificate, lamp_holds
 from treelamps.pieces import piece_counts
 from treelamps.reach import certificate_holds, find_certificate, find_plan, is_reachable, normal_setting
@@ -93,3 +96,66 @@ class GuaranteesTest(unittest.TestCase):
                 some = greatest_lock(forest, setting) != setting
                 self.assertIs(bool(steps_from(forest, setting)), some, (forest, setting))
                 self.assertIs(bool(possible_slides(forest, setting)), some, (forest, setting))
+
+    def check_as_new(self, board, state):
+        """The board answers as a new board of this forest and these lamps does."""
+        new = Board(*state)
+        found = (board.forest(), board.lamps(), board.rigid(), board.normal())
+        self.assertEqual(repr(found), repr((new.forest(), new.lamps(), new.rigid(), new.normal())))
+        self.assertEqual(found[:2], state)
+        self.assertEqual(board, new)
+
+    def test_g_edits_and_undos(self):
+        for number in range(600, 700):
+            board, states, edits = drawn_board(number)
+            self.check_as_new(board, states[-1])
+            self.check_as_new(board, (board.forest(), board.lamps()))
+
+    def test_g_after_each_edit_undo_and_attempt(self):
+        for number in range(700, 740):
+            draw = Random(number)
+            forest = draw.choice(SOME_FORESTS)
+            board = Board(forest, draw.choice(all_settings(forest)))
+            for _ in range(25):
+                edits = draw.sample(right_edits(board.forest(), board.lamps()), 1)
+                way = draw.randrange(4)
+                if way == 0 and len(board):
+                    board.undo()
+                elif way == 1:
+                    board.attempt(edits, goal=lambda one: len(one) % 2 == 0)
+                elif way == 2:
+                    self.assertRaises(ValueError, board.attempt, edits + [("dim", 12)])
+                else:
+                    make(board, edits[0])
+                self.check_as_new(board, (board.forest(), board.lamps()))
+
+    def test_g_and_plans_done_as_edits(self):
+        for number in range(740, 800):
+            draw = Random(number)
+            board, states, edits = drawn_board(number)
+            while len(board):
+                board.undo()
+            forest = board.forest()
+            for settings in [settings for settings in classes_by_search(forest) if board.lamps() in settings]:
+                wanted = draw.choice(settings)
+                kind, slides = board.reaches(wanted)
+                self.assertEqual(kind, "plan")
+                self.assertLessEqual(len(slides), 60)
+                for version, (u, v) in enumerate(slides, 1):
+                    self.assertEqual(board.slide(u, v), version)
+                self.check_as_new(board, (forest, wanted))
+                self.assertEqual(board.reaches(wanted), ("plan", ()))
+                for _ in slides:
+                    board.undo()
+                self.check_as_new(board, states[0])
+
+    def test_plans_attempted_as_edits(self):
+        for forest in SOME_FORESTS:
+            for settings in classes_by_search(forest)[::9]:
+                first, second = settings[0], settings[-1]
+                board = Board(forest, first)
+                edits = [("slide", u, v) for u, v in board.reaches(second)[1]]
+                for start in range(0, len(edits), 20):
+                    part = edits[start:start + 20]
+                    self.assertEqual(board.attempt(part), len(part))
+                self.check_as_new(board, (forest, second))

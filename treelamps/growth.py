@@ -7,7 +7,7 @@ from treelamps.forests import is_vertex, neighbours_of, path_between
 
 def edge_of(first, second):
     """Return the edge between two vertices."""
-    return (min(first, second), max(first, second))
+    return tuple(sorted([first, second]))
 
 
 def check_vertices(forest, values):
@@ -26,7 +26,7 @@ def attach_vertex(forest, vertex):
     if vertex is None:
         return (n + 1, edges)
     check_vertices(forest, (vertex,))
-    return (n + 1, tuple(sorted(edges + ((vertex, n),))))
+    return (n + 1, tuple(sorted(list(edges) + [(vertex, n)])))
 
 
 def add_edge(forest, first, second):
@@ -36,7 +36,7 @@ def add_edge(forest, first, second):
     if path is not None:
         raise Cycle(path)
     n, edges = forest
-    return (n, tuple(sorted(edges + (edge_of(first, second),))))
+    return (n, tuple(sorted(list(edges) + [edge_of(first, second)])))
 
 
 def remove_edge(forest, first, second):

@@ -1,8 +1,8 @@
 """Locks: lamps that can never move, and the slides by which the others can."""
 
-from treelamps.errors import BadSlides, NoLamp
-from treelamps.forests import is_number, is_pair, is_setting, neighbours_of
-from treelamps.slides import blocking_lamps, follow
+from treelamps.errors import BadSlides
+from treelamps.forests import is_pair, is_setting, neighbours_of
+from treelamps.slides import blocking_lamps, check_lamp, follow
 
 
 def chosen_neighbours(forest, chosen, vertex):
@@ -62,8 +62,7 @@ def slides_out(forest, setting, exits, lamp):
 
 def lamp_certificate(forest, setting, lamp):
     """Return ("rigid", greatest lock), or ("moves", slides) of which only the last one begins at the lamp."""
-    if not is_number(lamp) or lamp not in setting:
-        raise NoLamp(lamp)
+    check_lamp(setting, lamp)
     exits = exits_of(forest, setting)
     if lamp in exits:
         return ("moves", tuple(slides_out(forest, setting, exits, lamp)))

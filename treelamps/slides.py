@@ -9,10 +9,15 @@ def blocking_lamps(forest, setting, u, v):
     return tuple([vertex for vertex in neighbours_of(forest, v) if vertex in setting and vertex != u])
 
 
+def check_lamp(setting, value):
+    """Raise NoLamp if value is not a lamp of the setting."""
+    if not is_number(value) or value not in setting:
+        raise NoLamp(value)
+
+
 def slide_lamp(forest, setting, u, v):
     """Return the setting after the slide (u, v)."""
-    if not is_number(u) or u not in setting:
-        raise NoLamp(u)
+    check_lamp(setting, u)
     if not is_number(v) or v not in neighbours_of(forest, u):
         raise NotAdjacent(v)
     blocking = blocking_lamps(forest, setting, u, v)
